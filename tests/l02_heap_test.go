@@ -2,6 +2,7 @@ package tests
 
 import (
 	"fmt"
+	"maps"
 	"math"
 	"math/rand"
 	"reflect"
@@ -688,7 +689,7 @@ func (m *heapModel) used() int {
 
 // scribble changes what the heap leaves alone: words of objects, marks, roots, the phase, Dirty and Swept.
 func (m *heapModel) scribble(rnd *rand.Rand) {
-	for _, addr := range sortedObjects(m) {
+	for _, addr := range addressesOf(m.words) {
 		if words := m.words[addr]; rnd.Intn(4) == 0 {
 			words[rnd.Intn(len(words))] = rnd.Intn(2000) - 1000
 			m.mark[addr] = rnd.Intn(2) == 0
@@ -702,14 +703,8 @@ func (m *heapModel) scribble(rnd *rand.Rand) {
 	}
 }
 
-func sortedObjects(m *heapModel) []int {
-	var list []int
-	for addr := range m.words {
-		list = append(list, addr)
-	}
-	slices.Sort(list)
-	return list
-}
+// addressesOf are the keys of list, ascending, so that random choices among them can be made once more.
+func addressesOf[V any](list map[int]V) []int { return slices.Sorted(maps.Keys(list)) }
 
 // wantModel holds all that chapter 2 tells of w against the model.
 func wantModel(t *testing.T, w impl.World, m *heapModel) {
@@ -745,7 +740,7 @@ func TestTakeAndGiveAgainstAModel(t *testing.T) {
 		m := newHeapModel(newWorld(t, w.Base, w.Pages, len(w.Muts)))
 		largest := []int{2, 16, 8, 16}[seed%4]
 		for range 150 {
-			objects := sortedObjects(m)
+			objects := addressesOf(m.words)
 			switch rest := rnd.Intn(10); {
 			case rest == 0:
 				m.scribble(rnd)
