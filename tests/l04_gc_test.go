@@ -56,38 +56,38 @@ func wantRefused(t *testing.T, w impl.World) {
 	}
 }
 
-func TestRoundsRefuseWhatIsNotRight(t *testing.T) {
+func TestRoundsRefuseWhatIsNotRight(t *testing.T) { eachNotRight(t, wantRefused) }
+
+// eachNotRight asks about Worlds that are not WorldOk, for all reasons there are.
+func eachNotRight(t *testing.T, ask func(t *testing.T, w impl.World)) {
+	t.Helper()
 	for name, w := range brokenWorlds() {
 		t.Run(name, func(t *testing.T) {
-			wantRefused(t, w)
-			wantRefused(t, settled(w))
+			ask(t, w)
+			ask(t, settled(w))
 		})
 	}
-	for _, m := range slices.Concat(wrongWays(), wrongRounds(), wrongMarks()) {
+	for _, m := range slices.Concat(wrongWays(), wrongRounds(), wrongMarks(), wrongInEachPhase()) {
 		t.Run(m.world+", "+m.what, func(t *testing.T) {
 			w := ringWorlds(t)[m.world]
 			m.change(&w)
-			wantRefused(t, w)
+			ask(t, w)
 		})
 	}
 }
 
-// Marks, Grey and Next are all as they should not be, one phase after the other.
-func TestRoundsRefuseInEachPhase(t *testing.T) {
-	for name, w := range ringWorlds(t) {
-		for what, change := range map[string]func(w *impl.World){
-			"form": func(w *impl.World) { w.Words = w.Words[1:] },
-			"next": func(w *impl.World) { w.Gc.Next = -1 },
-			"grey": func(w *impl.World) { w.Gc.Grey = append(w.Gc.Grey, 5) },
-			"root": func(w *impl.World) { w.Muts[1].Roots[4] = 5 },
-		} {
-			t.Run(name+", "+what, func(t *testing.T) {
-				w := roomy(w)
-				change(&w)
-				wantRefused(t, w)
-			})
-		}
+// wrongInEachPhase has form, Next, Grey and a root all as they should not be, one phase after the other.
+func wrongInEachPhase() []moment {
+	var list []moment
+	for _, name := range []string{"off", "start", "setup", "seen", "mark", "term", "sweep", "swept"} {
+		list = append(list,
+			moment{"form", name, func(w *impl.World) { w.Words = w.Words[1:] }},
+			moment{"next", name, func(w *impl.World) { w.Gc.Next = -1 }},
+			moment{"grey", name, func(w *impl.World) { w.Gc.Grey = append(w.Gc.Grey, 5) }},
+			moment{"root", name, func(w *impl.World) { w.Muts[1].Roots[4] = 5 }},
+		)
 	}
+	return list
 }
 
 func TestShade(t *testing.T) {
@@ -494,6 +494,16 @@ func modelSweep(w *impl.World) {
 	}
 }
 
+// wordsAt is how many words the object at addr has, by the span whose page has it; 0, if there is no such span.
+func wordsAt(w impl.World, addr int) int {
+	for _, s := range w.Spans {
+		if s.Page == (addr-w.Base)/32 {
+			return s.Lens[(addr-w.Base)%32/[]int{2, 4, 8, 16}[s.Class]]
+		}
+	}
+	return 0
+}
+
 // gotAt tells all that those who hold handles can come to: the roots, and of each
 // object that can be got at from there its place, its pointers and its words.
 func gotAt(w impl.World) string {
@@ -507,12 +517,7 @@ func gotAt(w impl.World) string {
 	delete(set, 0)
 	text := fmt.Sprint(w.Base, w.Pages, w.Muts)
 	for _, addr := range addressesOf(closed(list, set)) {
-		n := 0
-		for _, s := range w.Spans {
-			if s.Page == (addr-w.Base)/32 {
-				n = s.Lens[(addr-w.Base)%32/[]int{2, 4, 8, 16}[s.Class]]
-			}
-		}
+		n := wordsAt(w, addr)
 		text += fmt.Sprint("; ", addr, len(list[addr].ptrs), w.Words[addr-w.Base:addr-w.Base+n])
 	}
 	return text
