@@ -54,14 +54,23 @@ func wantNothing(t *testing.T, w impl.World, l []impl.Op) {
 	}
 }
 
-func wantUnused(t *testing.T, w impl.World) {
-	t.Helper()
+// ofEachKind has each of list with each Kind, and with two that are none.
+func ofEachKind(list []impl.Op) []impl.Op {
 	var all []impl.Op
 	for kind := impl.OpAlloc - 1; kind <= impl.OpLen+1; kind++ {
-		for _, op := range []impl.Op{{Kind: kind, N: 1}, {Kind: kind, M: 2, H: 4, G: 5}, {Kind: kind, M: -1}} {
-			wantForm(t, w, op)
+		for _, op := range list {
+			op.Kind = kind
 			all = append(all, op)
 		}
+	}
+	return all
+}
+
+func wantUnused(t *testing.T, w impl.World) {
+	t.Helper()
+	all := ofEachKind([]impl.Op{{N: 1}, {M: 2, H: 4, G: 5}, {M: -1}})
+	for _, op := range all {
+		wantForm(t, w, op)
 	}
 	wantNothing(t, w, nil)
 	wantNothing(t, w, []impl.Op{{Kind: impl.OpSame}})
@@ -500,15 +509,17 @@ func TestIndexes(t *testing.T) {
 	}
 }
 
-// Of two codes that both would fit, the one that comes first counts.
-func TestTheFirstCodeCounts(t *testing.T) {
-	w := newWorld(t, 32, 1, 2)
-	w, _ = impl.Do(w, impl.Op{Kind: impl.OpAlloc, N: 16, V: 8})
-	w, _ = impl.Do(w, impl.Op{Kind: impl.OpAlloc, H: 1, N: 16})
-	for _, x := range []struct {
-		op   impl.Op
-		want int
-	}{
+// refusal is an operation for which two codes both would fit, and the one that comes first.
+type refusal struct {
+	op   impl.Op
+	want int
+}
+
+// refusals are such ones where there is no room, there are two Muts, handle 0 has
+// an object of 8 pointers and 8 numbers, handle 1 one of numbers, and the others
+// are empty.
+func refusals() []refusal {
+	return []refusal{
 		{impl.Op{Kind: impl.OpAlloc, M: 2, N: 17}, impl.AnHandle},
 		{impl.Op{Kind: impl.OpAlloc, H: 6, N: 0, V: 1}, impl.AnHandle},
 		{impl.Op{Kind: impl.OpAlloc, H: -1, N: 1}, impl.AnHandle},
@@ -533,7 +544,14 @@ func TestTheFirstCodeCounts(t *testing.T) {
 		{impl.Op{Kind: impl.OpCopy, H: 6, G: 2}, impl.AnHandle},
 		{impl.Op{Kind: impl.OpDrop, H: 6, N: 17}, impl.AnHandle},
 		{impl.Op{Kind: impl.OpLen, H: 2, N: 17, I: 99}, impl.AnHandle},
-	} {
+	}
+}
+
+func TestTheFirstCodeCounts(t *testing.T) {
+	w := newWorld(t, 32, 1, 2)
+	w, _ = impl.Do(w, impl.Op{Kind: impl.OpAlloc, N: 16, V: 8})
+	w, _ = impl.Do(w, impl.Op{Kind: impl.OpAlloc, H: 1, N: 16})
+	for _, x := range refusals() {
 		wantDo(t, "full", w, x.op, code(x.want), nil)
 	}
 }
@@ -568,18 +586,26 @@ func TestDoAll(t *testing.T) {
 	}
 }
 
+// aThousand are operations that write number 1 of what handle h of mut 0 holds, and
+// read it again, with one of no Kind in their midst, and their answers. In the end
+// the number is 998.
+func aThousand(h int) ([]impl.Op, []impl.Ans) {
+	ops := make([]impl.Op, 1000, 1001)
+	want := make([]impl.Ans, 1000)
+	for i := range ops {
+		ops[i] = impl.Op{Kind: impl.OpSet, H: h, I: 1, V: i}
+		if i%2 == 1 {
+			ops[i] = impl.Op{Kind: impl.OpGet, H: h, I: 1}
+			want[i].Val = i - 1
+		}
+	}
+	ops[500], want[500], want[501] = impl.Op{Kind: 10}, code(impl.AnForm), impl.Ans{Val: 498}
+	return ops, want
+}
+
 func TestDoAllOfAThousand(t *testing.T) {
 	for name, w := range ringWorlds(t) {
-		ops := make([]impl.Op, 1000, 1001)
-		want := make([]impl.Ans, 1000)
-		for i := range ops {
-			ops[i] = impl.Op{Kind: impl.OpSet, I: 1, V: i}
-			if i%2 == 1 {
-				ops[i] = impl.Op{Kind: impl.OpGet, I: 1}
-				want[i].Val = i - 1
-			}
-		}
-		ops[500], want[500], want[501] = impl.Op{Kind: 10}, code(impl.AnForm), impl.Ans{Val: 498}
+		ops, want := aThousand(0)
 		next, answers := impl.DoAll(w, ops)
 		if !slices.Equal(answers, want) || next.Words[1] != 998 {
 			t.Errorf("%s: a thousand: %v, and %d", name, answers, next.Words[1])
@@ -588,20 +614,14 @@ func TestDoAllOfAThousand(t *testing.T) {
 		wantNothing(t, w, make([]impl.Op, 1001))
 		wantNothing(t, w, make([]impl.Op, 5000))
 		next, answers = impl.DoAll(w, make([]impl.Op, 1000))
-		if wantWorld(t, name+": a thousand of none", next, w); len(answers) != 1000 || slices.ContainsFunc(answers, func(a impl.Ans) bool { return a != code(impl.AnForm) }) {
+		if wantWorld(t, name+": a thousand of none", next, w); !slices.Equal(answers, slices.Repeat([]impl.Ans{code(impl.AnForm)}, 1000)) {
 			t.Errorf("%s: a thousand of none: %v", name, answers)
 		}
 	}
 }
 
 func TestUseMemory(t *testing.T) {
-	var ops []impl.Op
-	for kind := impl.OpAlloc - 1; kind <= impl.OpLen+1; kind++ {
-		for _, op := range []impl.Op{{N: 3, V: 1}, {M: 1, H: 3, N: 16}, {M: 2, H: 4, I: 8, G: 2}, {M: 2, H: 5, G: 4}, {M: 2, I: 99, H: 4, N: 99}, {M: -1}} {
-			op.Kind = kind
-			ops = append(ops, op)
-		}
-	}
+	ops := ofEachKind([]impl.Op{{N: 3, V: 1}, {M: 1, H: 3, N: 16}, {M: 2, H: 4, I: 8, G: 2}, {M: 2, H: 5, G: 4}, {M: 2, I: 99, H: 4, N: 99}, {M: -1}})
 	for name, w := range ringWorlds(t) {
 		wantUnwritten(t, name, w, func(w impl.World) {
 			for _, op := range ops {
@@ -1079,6 +1099,18 @@ func wantNoRoomJustly(t *testing.T, w impl.World, n int) {
 	}
 }
 
+// wantAllDone fails if a Kind was not done so often in a Phase.
+func wantAllDone(t *testing.T, done map[[2]int]int, least int) {
+	t.Helper()
+	for kind := impl.OpAlloc; kind <= impl.OpLen; kind++ {
+		for phase := impl.PhOff; phase <= impl.PhSweep; phase++ {
+			if done[[2]int{kind, phase}] < least {
+				t.Errorf("kind %d was done but %d times in phase %d", kind, done[[2]int{kind, phase}], phase)
+			}
+		}
+	}
+}
+
 // All Kinds, in all Phases, with steps of rounds between them, from nothing on.
 func TestUseInTheMidstOfRounds(t *testing.T) {
 	done, codes := map[[2]int]int{}, map[int]int{}
@@ -1107,13 +1139,7 @@ func TestUseInTheMidstOfRounds(t *testing.T) {
 		p.step(t, what, impl.StepsLeft(p.w))
 		p.round(t, what)
 	}
-	for kind := impl.OpAlloc; kind <= impl.OpLen; kind++ {
-		for phase := impl.PhOff; phase <= impl.PhSweep; phase++ {
-			if done[[2]int{kind, phase}] < 40 {
-				t.Errorf("kind %d was done but %d times in phase %d", kind, done[[2]int{kind, phase}], phase)
-			}
-		}
-	}
+	wantAllDone(t, done, 40)
 	for answer := impl.AnOk; answer <= impl.AnMemory; answer++ {
 		if codes[answer] < 100 {
 			t.Errorf("code %d came but %d times", answer, codes[answer])
