@@ -176,9 +176,9 @@ func movedByDefinition(w impl.World, base int, pages int) impl.World {
 	return next
 }
 
-// worldByDefinition is the World of which all are the numbers, if there is one: it
-// is told by taking the numbers in order, and asking what numbers it has then.
-func worldByDefinition(all [4][]int) (impl.World, bool) {
+// shapeByDefinition is the World of which the first three of all are the numbers, if
+// there is one that is FormOk without words: they are taken in order.
+func shapeByDefinition(all [4][]int) (impl.World, bool) {
 	lists, lacks := all, false
 	next := func(k int) int {
 		if len(lists[k]) == 0 {
@@ -218,12 +218,19 @@ func worldByDefinition(all [4][]int) (impl.World, bool) {
 	for grey := next(2); len(w.Gc.Grey) < grey && !lacks; {
 		w.Gc.Grey = append(w.Gc.Grey, addrByDefinition(w, next(2)))
 	}
-	for _, s := range w.Spans {
+	return w, !lacks && impl.FormOk(w)
+}
+
+// worldByDefinition is the World of which all are the numbers, if there is one: it
+// is told by taking the numbers in order, and asking what numbers it has then.
+func worldByDefinition(all [4][]int) (impl.World, bool) {
+	w, is := shapeByDefinition(all)
+	if !is || len(all[3]) != 36*len(w.Spans) {
+		return impl.World{}, false
+	}
+	for k, s := range w.Spans {
 		for i := range 32 {
-			if i%8 == 0 {
-				next(3)
-			}
-			w.Words[32*s.Page+i] = next(3)
+			w.Words[32*s.Page+i] = all[3][36*k+i/8*9+1+i%8]
 		}
 	}
 	eachObject(w, func(k int, slot int, first int, _ bool) {
@@ -231,7 +238,7 @@ func worldByDefinition(all [4][]int) (impl.World, bool) {
 			w.Words[first+i] = addrByDefinition(w, w.Words[first+i])
 		}
 	})
-	if lacks || !impl.FormOk(w) || len(wrongIn(w)) > 0 || imageOf(imageNumbers(w)) != imageOf(all) {
+	if !impl.FormOk(w) || len(wrongIn(w)) > 0 || imageOf(imageNumbers(w)) != imageOf(all) {
 		return impl.World{}, false
 	}
 	return w, true
